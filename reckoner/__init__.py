@@ -1,0 +1,1 @@
+"""Reckoner: expressions over whole numbers, turned into steps."""
