@@ -9,8 +9,11 @@ def value(expression):
         if value(expression[1]) != 0:
             return value(expression[2])
         return value(expression[3])
-    first = value(expression[1])
-    second = value(expression[2])
+    return outcome(sign, value(expression[1]), value(expression[2]))
+
+
+# Both ways of reckoning use this one, so that a sign means the same in an expression and in a row of steps.
+def outcome(sign, first, second):
     if sign == "add":
         return first + second
     if sign == "sub":

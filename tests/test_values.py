@@ -2,22 +2,10 @@ import copy
 import unittest
 
 from reckoner.values import shown, size, value
+from tests.helper import DEPTHS, deep, num
 
-DEPTHS = (99, 100, 101, 150, 300)
 GREAT = 10 ** 40 + 7
 HUGE = 10 ** 6000
-
-
-def num(number):
-    return ("num", number)
-
-
-def deep(start, depth, around):
-    """`start` with tuples put round it until it is `depth` tuples deep."""
-    expression = start
-    for _ in range(depth - 1):
-        expression = around(expression)
-    return expression
 
 
 class Value(unittest.TestCase):
